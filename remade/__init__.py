@@ -1,0 +1,1 @@
+"""Texts made of other texts, made again only where they must be."""
